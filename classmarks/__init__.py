@@ -1,0 +1,1 @@
+"""Classmarks: a class's marks kept by rules that change."""

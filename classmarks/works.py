@@ -1,0 +1,30 @@
+"""Works: what pupils hand in tries for."""
+
+from classmarks.whole import is_whole_in
+
+LAST_DAY = 200
+MOST_POINTS = 100
+MOST_WORKS = 12
+
+
+def is_day(thing):
+    """Tell of anything whether it is a day."""
+    return is_whole_in(thing, 0, LAST_DAY)
+
+
+def is_work(thing):
+    """Tell of anything whether it is a work, a tuple (day, most, extra)."""
+    if not isinstance(thing, tuple) or len(thing) != 3:
+        return False
+    day, most, extra = thing
+    return is_day(day) and is_whole_in(most, 1, MOST_POINTS) and isinstance(extra, bool)
+
+
+def are_works(thing):
+    """Tell of anything whether it is works, a tuple of them by their days."""
+    if not isinstance(thing, tuple) or not 1 <= len(thing) <= MOST_WORKS:
+        return False
+    if not all([is_work(part) for part in thing]):
+        return False
+    days = [work[0] for work in thing]
+    return days == sorted(days)
