@@ -7,7 +7,7 @@ from pathlib import Path
 
 PACKAGE = Path(__file__).resolve().parent.parent / "classmarks"
 BUILTINS = set(
-    "len range enumerate zip min max sum abs sorted reversed int str bool bytes list tuple dict set isinstance"
+    "len range enumerate zip min max sum abs sorted reversed int str bool bytes list tuple dict set frozenset isinstance"
     " ord repr any all divmod iter next property staticmethod classmethod super Exception ValueError TypeError"
     " KeyError IndexError LookupError ZeroDivisionError ArithmeticError OverflowError RuntimeError"
     " NotImplementedError AttributeError StopIteration NotImplemented".split()
@@ -78,8 +78,10 @@ class Language(unittest.TestCase):
                 if isinstance(sign, (ast.Is, ast.IsNot)):
                     self.assertIn(getattr(right, "value", 0), (None, True, False), place)
 
-    def test_no_generator_expression_beside_eq(self):
-        self.assertEqual(nodes(ast.GeneratorExp), [])
+    def test_l7_no_generator_expression_where_eq_asks_for_a_list(self):
+        for place, node in nodes(ast.Call):
+            if isinstance(node.func, ast.Name) and node.func.id in ("any", "all", "min", "max", "sum", "sorted"):
+                self.assertFalse(any(isinstance(given, ast.GeneratorExp) for given in node.args), place)
 
 
 if __name__ == "__main__":
