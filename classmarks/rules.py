@@ -43,3 +43,8 @@ class Rules:
 
     def __repr__(self):
         return f"Rules(drop={self.drop}, cut={self.cut}, second={self.second})"
+
+
+def rules_like(rules):
+    """Tell new Rules with the same values."""
+    return Rules(rules.drop, rules.cut, rules.second)

@@ -1,5 +1,6 @@
 """Works: what pupils hand in tries for."""
 
+from classmarks.tuples import has_parts, never_falls
 from classmarks.whole import is_whole_in
 
 LAST_DAY = 200
@@ -14,7 +15,7 @@ def is_day(thing):
 
 def is_work(thing):
     """Tell of anything whether it is a work, a tuple (day, most, extra)."""
-    if not isinstance(thing, tuple) or len(thing) != 3:
+    if not has_parts(thing, 3, 3):
         return False
     day, most, extra = thing
     return is_day(day) and is_whole_in(most, 1, MOST_POINTS) and isinstance(extra, bool)
@@ -22,9 +23,6 @@ def is_work(thing):
 
 def are_works(thing):
     """Tell of anything whether it is works, a tuple of them by their days."""
-    if not isinstance(thing, tuple) or not 1 <= len(thing) <= MOST_WORKS:
+    if not has_parts(thing, 1, MOST_WORKS) or not all([is_work(part) for part in thing]):
         return False
-    if not all([is_work(part) for part in thing]):
-        return False
-    days = [work[0] for work in thing]
-    return days == sorted(days)
+    return never_falls([work[0] for work in thing])

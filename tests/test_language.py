@@ -72,6 +72,24 @@ class Language(unittest.TestCase):
         for place, node in nodes(ast.Name):
             self.assertRegex(node.id, r"\A[A-Za-z]", place)
 
+    def test_l15_no_local_name_of_a_class_an_import_or_a_builtin(self):
+        for path, text in sources():
+            tree = ast.parse(text)
+            taken = {name.name for node in ast.walk(tree) if isinstance(node, ast.ImportFrom) for name in node.names}
+            taken |= {node.name for node in ast.walk(tree) if isinstance(node, ast.ClassDef)} | set(dir(builtins))
+            for node in ast.walk(tree):
+                if isinstance(node, ast.arg):
+                    self.assertNotIn(node.arg, taken, f"{path.name}:{node.lineno}")
+                if isinstance(node, ast.Name) and isinstance(node.ctx, ast.Store):
+                    self.assertNotIn(node.id, taken, f"{path.name}:{node.lineno}")
+
+    def test_l18_no_name_is_a_method_and_an_attribute(self):
+        methods = {part.name for place, node in nodes(ast.ClassDef) for part in node.body
+                   if isinstance(part, ast.FunctionDef)}
+        for place, node in nodes(ast.Attribute):
+            if isinstance(node.ctx, ast.Store):
+                self.assertNotIn(node.attr, methods, place)
+
     def test_l20_is(self):
         for place, node in nodes(ast.Compare):
             for sign, right in zip(node.ops, node.comparators):
