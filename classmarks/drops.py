@@ -31,9 +31,9 @@ def look_at(rows, drop, extra):
         raise NoExtra("extra points are a whole number from 0 on")
 
 
-def many_kept(rows, drop):
-    """Tell how many rows are kept."""
-    return max(1, len(rows) - drop)
+def many_kept(many, drop):
+    """Tell how many of so many rows are kept."""
+    return max(1, many - drop)
 
 
 def totals(rows, kept, extra):
@@ -54,7 +54,7 @@ def lifting_most(rows, many, points, most):
 
 def best_kept(rows, drop, extra):
     """Tell the numbers of the kept rows whose mark is greatest, of several the first."""
-    many = many_kept(rows, drop)
+    many = many_kept(len(rows), drop)
     kept = tuple(range(many))
     while True:
         points, most = totals(rows, kept, extra)
@@ -81,7 +81,7 @@ def best_mark(rows, drop=0, extra=0):
 
 def are_kept(rows, thing, drop):
     """Tell of anything whether it is a rising tuple of as many numbers of rows as are kept."""
-    many = many_kept(rows, drop)
+    many = many_kept(len(rows), drop)
     if not has_parts(thing, many, many):
         return False
     return all([is_whole_in(part, 0, len(rows) - 1) for part in thing]) and is_rising(thing)

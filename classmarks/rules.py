@@ -23,6 +23,15 @@ def is_second(thing):
     return isinstance(thing, str) and thing in SECONDS
 
 
+def is_value(name, thing):
+    """Tell of anything whether it is a value for the rule of this name, which is anything, too."""
+    if name == "drop":
+        return is_drop(thing)
+    if name == "cut":
+        return is_cut(thing)
+    return name == "second" and is_second(thing)
+
+
 class Rules:
     """How many works are dropped, what a late day takes off, how second tries count."""
 

@@ -1,11 +1,11 @@
 """Sheets: the results of one pupil in all works, and the mark that they make."""
 
 from classmarks.drops import best_mark, kept_rows
-from classmarks.errors import BadRule, NoResult, NoRules, NoWorks
+from classmarks.errors import BadRule, NoResult, NoRules
 from classmarks.rules import Rules, is_drop, rules_like
 from classmarks.scores import is_result, score
 from classmarks.tuples import has_parts
-from classmarks.works import are_works
+from classmarks.works import look_at_works
 
 
 def are_rules_for(works, thing):
@@ -54,8 +54,7 @@ class Sheet:
     """Works, each with its Rules and its result, and how many of them are dropped."""
 
     def __init__(self, works, rules, results, drop=0):
-        if not are_works(works):
-            raise NoWorks("what stands in the place of works is none")
+        look_at_works(works)
         if not are_rules_for(works, rules):
             raise NoRules("what stands in the place of Rules for each work is none")
         if not are_results_of(works, results):

@@ -1,5 +1,6 @@
 """Works: what pupils hand in tries for."""
 
+from classmarks.errors import NoDay, NoWorks
 from classmarks.tuples import has_parts, never_falls
 from classmarks.whole import is_whole_in
 
@@ -26,3 +27,15 @@ def are_works(thing):
     if not has_parts(thing, 1, MOST_WORKS) or not all([is_work(part) for part in thing]):
         return False
     return never_falls([work[0] for work in thing])
+
+
+def look_at_day(day):
+    """Refuse what is no day."""
+    if not is_day(day):
+        raise NoDay("what stands in the place of a day is none")
+
+
+def look_at_works(works):
+    """Refuse what is no works."""
+    if not are_works(works):
+        raise NoWorks("what stands in the place of works is none")
