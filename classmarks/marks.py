@@ -3,6 +3,8 @@
 from classmarks.errors import NoMark
 from classmarks.whole import is_whole_from
 
+HUNDREDTHS = 100
+
 
 def lowest_terms(points, most):
     """Tell both numbers without what they have in common."""

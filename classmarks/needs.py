@@ -2,11 +2,10 @@
 
 from classmarks.drops import many_kept, totals
 from classmarks.errors import NoBound, NoSheet
+from classmarks.marks import HUNDREDTHS
 from classmarks.sheets import Sheet, counted_in, scores_of
 from classmarks.whole import is_whole_in
 from classmarks.works import look_at_day
-
-HUNDREDTHS = 100
 
 
 def works_left(sheet, day):

@@ -1,12 +1,11 @@
 """Scales: letters for marks."""
 
 from classmarks.errors import NoMark, NoScale
-from classmarks.marks import Mark
+from classmarks.marks import HUNDREDTHS, Mark
 from classmarks.tuples import has_parts, is_rising
 from classmarks.whole import is_whole_in
 
 MOST_LETTERS = 8
-HUNDREDTHS = 100
 
 
 def is_letter(thing):

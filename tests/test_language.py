@@ -29,6 +29,17 @@ def nodes(kind):
             for node in ast.walk(ast.parse(text)) if isinstance(node, kind)]
 
 
+def parents(kind):
+    """Tell the parts of this kind in all files, each with its place and the part in which it stands."""
+    return [(f"{path.name}:{getattr(node, 'lineno', 0)}", part, node) for path, text in sources()
+            for node in ast.walk(ast.parse(text)) for part in ast.iter_child_nodes(node) if isinstance(part, kind)]
+
+
+def calls(node, names):
+    """Tell whether this is a call of one of these names."""
+    return isinstance(node, ast.Call) and isinstance(node.func, ast.Name) and node.func.id in names
+
+
 class Language(unittest.TestCase):
     def test_l1_l14_plain_files_only(self):
         others = [path.name for path in PACKAGE.iterdir() if path.name != "__pycache__"
@@ -100,6 +111,63 @@ class Language(unittest.TestCase):
         for place, node in nodes(ast.Call):
             if isinstance(node.func, ast.Name) and node.func.id in ("any", "all", "min", "max", "sum", "sorted"):
                 self.assertFalse(any(isinstance(given, ast.GeneratorExp) for given in node.args), place)
+
+    def test_l7_no_float_no_division_no_generator_expression(self):
+        self.assertEqual(nodes((ast.Div, ast.GeneratorExp)), [])
+        for place, node in nodes(ast.BinOp):
+            self.assertNotIsInstance(node.op, ast.Div, place)
+        for place, node in nodes(ast.Constant):
+            self.assertNotIsInstance(node.value, (float, complex), place)
+
+    def test_l7_behind_the_star_of_a_call_stands_a_name(self):
+        for place, node in nodes(ast.Call):
+            for given in node.args:
+                if isinstance(given, ast.Starred):
+                    self.assertIsInstance(given.value, (ast.Name, ast.List, ast.Tuple), place)
+            self.assertNotIn(None, [keyword.arg for keyword in node.keywords], place)
+
+    def test_l22_keywords_of_builtins(self):
+        for place, node in nodes(ast.Call):
+            if isinstance(node.func, ast.Name) and node.func.id in BUILTINS:
+                for keyword in node.keywords:
+                    self.assertIn((node.func.id, keyword.arg), (
+                        ("sorted", "key"), ("min", "key"), ("max", "key"), ("min", "default"), ("max", "default"),
+                        ("enumerate", "start")), place)
+            if isinstance(node.func, ast.Attribute) and node.func.attr not in ("__init__",):
+                self.assertEqual(node.keywords, [], place)
+
+    def test_l23_iterated_on_the_spot(self):
+        takers = ("list", "tuple", "dict", "sorted", "sum", "any", "all", "enumerate", "zip", "min", "max")
+        for place, part, node in parents(ast.Call):
+            if calls(part, ("zip", "enumerate", "reversed", "range")):
+                loop = isinstance(node, (ast.For, ast.comprehension)) and node.iter is part
+                self.assertTrue(loop or calls(node, takers), place)
+
+    def test_l24_sets_stand_in_sorted_or_len(self):
+        for place, part, node in parents((ast.Set, ast.SetComp, ast.Call)):
+            if isinstance(part, (ast.Set, ast.SetComp)) or calls(part, ("set",)):
+                self.assertTrue(calls(node, ("sorted", "len")) and node.keywords == [], place)
+
+    def test_l3_module_level(self):
+        for path, text in sources():
+            for node in ast.parse(text).body:
+                self.assertIsInstance(node, (ast.Expr, ast.ImportFrom, ast.FunctionDef, ast.ClassDef, ast.Assign), path.name)
+                if isinstance(node, ast.Expr):
+                    self.assertIsInstance(node.value, ast.Constant, path.name)
+
+    def test_l6_l8_l27_neither_barred_statements_nor_strings(self):
+        self.assertEqual(nodes((ast.Global, ast.AsyncFunctionDef, ast.Await, ast.Yield, ast.Try, ast.With)), [])
+        for place, node in nodes(ast.Constant):
+            if isinstance(node.value, str):
+                self.assertNotIn(chr(37), node.value, place)
+
+    def test_l16_no_two_files_import_from_each_other(self):
+        uses = {path.stem: {node.module.split(".")[1] for node in ast.walk(ast.parse(text))
+                            if isinstance(node, ast.ImportFrom)} for path, text in sources()}
+        while uses:
+            free = [name for name in uses if not uses[name] & set(uses)]
+            self.assertNotEqual(free, [], uses)
+            uses = {name: uses[name] for name in uses if name not in free}
 
 
 if __name__ == "__main__":
