@@ -310,6 +310,11 @@ class Refused(unittest.TestCase):
                     if bent != line:
                         self.check(NoLine, bent, desk)
 
+    def test_a_pupil_without_signs(self):
+        desk = made()
+        for line in ("mark  1 1", "letter  1 1", "steps  1 1", "need  1 1 1", "mark  201 1", "mark   1", "mark   "):
+            self.check(NoLine, line, desk)
+
     def test_within_a_page_any_signs_may_stand(self):
         desk = made()
         for rest in ("", " ", "  9 excuse ann 0", " 9 excuse ann 0", "9 excuse ann 0 ", "9  excuse ann 0", "9\texcuse ann 0",

@@ -130,6 +130,7 @@ class Small(unittest.TestCase):
                     self.assertEqual(needed(sheet, 0, bound), by_trying(sheet, 0, bound), (str(sheet), bound))
 
     def test_bound_left_out(self):
+        self.assertEqual(needed(made(((10, 100, False),), (None,)), 0), (50, (50,)))
         for sheet in small_sheets(40, 62):
             self.assertEqual(needed(sheet, 0), needed(sheet, 0, 50))
             self.assertEqual(needed(sheet, 0), by_trying(sheet, 0, 50))

@@ -39,8 +39,9 @@ def bad_deeds():
             ("second", (0, 1, True, None, "", "Best", "BEST", "best ", " best", "first", "lasts", "mean\n", "drop",
                         ("best",), ["best"], {"best": 1}, b"best"))):
         bad += [("rule", 0, name, value) for value in values]
-    bad += [("rule", 0, name, 1) for name in ("", "Drop", "drop ", "cuts", "seconds", "rule", "best", 0, None, True,
-                                              ("drop",), ["drop"], {"drop": 1}, b"drop")]
+    for value in (1, 0, "best", "mean"):
+        bad += [("rule", 0, name, value) for name in ("", "Drop", "drop ", "cuts", "seconds", "rule", "best", 0, None, True,
+                                                      ("drop",), ["drop"], {"drop": 1}, b"drop")]
     bad += [("try", pupil, 1, 7, 8) for pupil in BAD_PUPILS] + [("try", "ann", number, 7, 8) for number in BAD_NUMBERS]
     bad += [("try", "ann", 0, points, 8) for points in (-1, 11, 20, 10 ** 29, True, False, None, "7", (7,), [7], {}, 7.0)]
     bad += [("try", "ann", 1, 21, 8), ("try", "ann", 2, 101, 8), ("try", "ann", 1, -1, 8)]

@@ -135,6 +135,11 @@ class Border(unittest.TestCase):
             for scale in (SCALE, EIGHT, (("A", 0),), (("A", 100), ("B", 0))):
                 self.assertIs(at_border(mark, scale), False)
 
+    def test_bound_1(self):
+        for scale in (EIGHT, (("A", 1), ("B", 0))):
+            for mark, border in ((Mark(1), True), (Mark(2), False), (Mark(1, 101), False), (Mark(1, 99), False)):
+                self.assertIs(at_border(mark, scale), border, mark)
+
     def test_bound_100(self):
         scale = (("A", 100), ("B", 0))
         for mark, border in ((Mark(100), True), (Mark(7, 7), True), (Mark(99), False), (Mark(101), False),

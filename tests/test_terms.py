@@ -161,6 +161,13 @@ class Results(unittest.TestCase):
             self.assertEqual(results([tried(told, "ann", 1, 7, 8)])[1], ((7, 8),))
         self.assertEqual(results([tried(0, "ann", 1, 7, 180)], day=179)[1], None)
 
+    def test_pupils_with_the_names_of_words(self):
+        for pupil in ("rule", "try", "excuse", "excused", "drop", "cut", "second", "best"):
+            pages = [tried(9, pupil, 1, 7, 8), excused(9, pupil, 0), rule(0, 0, "cut", 1), rule(0, 0, "second", "best")]
+            self.assertEqual(results(pages, pupil)[:2], ("excused", ((7, 8),)))
+            self.assertEqual(pupils_of(WORKS, tuple(pages)), [pupil])
+            self.assertEqual(rules_on(WORKS, tuple(pages), 0), Rules(0, 1))
+
     def test_each_pupil_apart(self):
         pages = [tried(9, pupil, 1, points, 8) for points, pupil in enumerate(PUPILS)] + [excused(9, "z", 0)]
         for points, pupil in enumerate(PUPILS):
